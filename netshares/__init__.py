@@ -1,0 +1,1 @@
+"""Fair shares of a net's lines, told to the sources so that no line ever carries too much."""

@@ -1,4 +1,4 @@
-"""The net's side: who may have how much, and the messages that tell it to the sources.
+"""The net's side, who may have how much; the sources; and the messages between them.
 
 All of it stands in this one file, since the interface asks that nothing is imported.
 """
@@ -8,6 +8,13 @@ SN_FLOW = 1
 SN_WISH = 2
 SN_SAY = 3
 SN_HEARD = 4
+SN_OF = 5
+SS_START = 6
+SS_HEARD = 7
+SS_SAY = 8
+SS_SHARE = 9
+
+SOURCES = 4
 
 INVALID = -22
 NO_PLACE = -28
@@ -191,6 +198,14 @@ class Net:
         self.plan()
         return [1]
 
+    def sn_of(self, flow):
+        """What a flow was told last, what's fair and what it may use, behind whether it waits."""
+        if flow >= len(self.flows):
+            return [NO_SUCH_FLOW]
+        asked = self.flows[flow]
+        fair = fair_shares(self.room, self.flows)
+        return [1 if asked.waits else 0, asked.told, fair[flow], asked.may_use()]
+
     def plan(self):
         """Tell each flow its fair share, or so much of it as can be told by now."""
         fair = fair_shares(self.room, self.flows)
@@ -214,18 +229,60 @@ class Net:
         return self.room[line] - sum([flow.may_use() for flow in self.flows if line in flow.lines])
 
 
+class Source:
+    """A source; each call answers the list of its numbers."""
+
+    def __init__(self):
+        self.flow = 0
+        self.number = 0
+        self.share = 0
+
+    def ss_start(self, me):
+        """Begin anew, as the source of this flow."""
+        if me >= MOST_FLOWS:
+            return [INVALID]
+        self.flow = me
+        self.number = 0
+        self.share = 0
+        return [0]
+
+    def ss_heard(self, message):
+        """Take the net's word of its share."""
+        if not is_right(message) or message[0] != TO_SOURCE or message[1] != self.flow:
+            return [NOT_RIGHT]
+        number = number_in(message, NUMBER_AT)
+        # A late message tells of a share that the net's side may have given to others since.
+        if number <= self.number:
+            return [0]
+        self.number = number
+        self.share = number_in(message, SHARE_AT)
+        return [1]
+
+    def ss_say(self):
+        """The message that tells the net's side what was heard."""
+        if self.number == 0:
+            return [NOTHING_YET]
+        return [0] + message_of(FROM_SOURCE, self.flow, self.number, self.share)
+
+    def ss_share(self):
+        """The share that it goes by."""
+        return [self.share]
+
+
 def end_of_call(calls, at):
     """Where the call that begins there ends."""
     name = calls[at]
-    if name in (SN_START, SN_HEARD):
+    if name in (SN_START, SN_HEARD, SS_HEARD):
         return at + 3 + calls[at + 2]
-    if name == SN_SAY:
-        return at + 3
-    return at + 4
+    if name in (SN_FLOW, SN_WISH):
+        return at + 4
+    if name in (SS_SAY, SS_SHARE):
+        return at + 2
+    return at + 3
 
 
-def answer_of(net, call):
-    """What one call answers; its rows have their count ahead of them."""
+def answer_of_net(net, call):
+    """What one call of the net's side answers; its rows have their count ahead of them."""
     name = call[0]
     if name == SN_START:
         return net.sn_start(call[3:])
@@ -235,17 +292,39 @@ def answer_of(net, call):
         return net.sn_wish(call[2], call[3])
     if name == SN_SAY:
         return net.sn_say(call[2])
-    return net.sn_heard(call[3:])
+    if name == SN_HEARD:
+        return net.sn_heard(call[3:])
+    return net.sn_of(call[2])
+
+
+def answer_of_source(source, call):
+    """What one call of a source answers; its rows have their count ahead of them."""
+    name = call[0]
+    if name == SS_START:
+        return source.ss_start(call[2])
+    if name == SS_HEARD:
+        return source.ss_heard(call[3:])
+    if name == SS_SAY:
+        return source.ss_say()
+    return source.ss_share()
+
+
+def answer_of(net, sources, call):
+    """What one call answers, asked of the object that it names."""
+    if call[0] < SS_START:
+        return answer_of_net(net, call)
+    return answer_of_source(sources[call[1]], call)
 
 
 def answers(calls):
     """What the calls answer, one behind another, each with how many numbers it answers ahead of it."""
     net = Net()
+    sources = [Source() for k in range(SOURCES)]
     answered = []
     at = 0
     while at < len(calls):
         end = end_of_call(calls, at)
-        answer = answer_of(net, calls[at:end])
+        answer = answer_of(net, sources, calls[at:end])
         answered.append(len(answer))
         answered.extend(answer)
         at = end

@@ -23,6 +23,26 @@ def heard(message):
     return [4, 0, len(message), *message]
 
 
+def of(number):
+    return [5, 0, number]
+
+
+def begin(source, me):
+    return [6, source, me]
+
+
+def hear(source, message):
+    return [7, source, len(message), *message]
+
+
+def reply(source):
+    return [8, source]
+
+
+def share_of(source):
+    return [9, source]
+
+
 def turned(value, bits):
     return int(format(value, f"0{bits}b")[::-1], 2)
 
@@ -54,6 +74,11 @@ def ack(number_of_flow, number, share=0):
 def told(number_of_flow, number, share):
     """What sn_say answers for a flow that was told this share last."""
     return [0, *message(1, number_of_flow, number, share)]
+
+
+def goes_by(number_of_flow, number, share):
+    """What ss_say answers of a source that goes by this message."""
+    return [0, *message(2, number_of_flow, number, share)]
 
 
 def flat(calls):

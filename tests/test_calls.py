@@ -1,8 +1,8 @@
-"""Points 1 to 5, call by call."""
+"""Points 1 to 6, call by call."""
 
 import unittest
 
-from helper import ack, checked, flow, heard, last, message, run, say, start, told, wish
+from helper import ack, checked, flow, heard, last, message, of, run, say, start, told, wish
 
 
 class Start(unittest.TestCase):
@@ -269,6 +269,76 @@ class Heard(unittest.TestCase):
         self.assertEqual(last(*begun, ack(0, 1), say(0)), told(0, 2, 5))
         self.assertEqual(last(*begun, ack(0, 1), say(1)), [-61])
         self.assertEqual(last(*begun, ack(0, 1), ack(0, 2), say(1)), told(1, 1, 5))
+
+
+class Of(unittest.TestCase):
+    """Point 6: whether it waits; then what it was told last, what's fair, what it may use."""
+
+    def test_no_such_flow(self):
+        for number in (0, 1, 15, 16, 4294967295):
+            self.assertEqual(last(start(5), of(number)), [-2])
+        for number in (1, 2, 16, 256, 4294967295):
+            self.assertEqual(last(start(5), flow(1, 1), of(number)), [-2])
+        self.assertEqual(run(start(20), *[flow(1, 1)] * 16, of(15), of(16))[-2:], [[1, 1, 1, 1], [-2]])
+
+    def test_refused_flow_is_none(self):
+        self.assertEqual(last(start(5), flow(0, 1), of(0)), [-2])
+
+    def test_told_nothing(self):
+        self.assertEqual(last(start(5), flow(1, 0), of(0)), [0, 0, 0, 0])
+        self.assertEqual(last(start(0), flow(1, 200), of(0)), [0, 0, 0, 0])
+
+    def test_told_nothing_though_something_is_fair(self):
+        begun = [start(10), flow(1, 10), flow(1, 10)]
+        self.assertEqual(run(*begun, of(0), of(1))[3:], [[1, 10, 5, 10], [0, 0, 5, 0]])
+
+    def test_waits_till_it_was_heard(self):
+        answered = run(start(200), flow(1, 200), of(0), ack(0, 2), of(0), ack(0, 1), of(0))
+        self.assertEqual(answered[2:], [[1, 200, 200, 200], [0], [1, 200, 200, 200], [1], [0, 200, 200, 200]])
+
+    def test_told_less_and_waits(self):
+        begun = [start(10), flow(1, 8), ack(0, 1), wish(0, 3)]
+        self.assertEqual(last(*begun, of(0)), [1, 3, 3, 8])
+        self.assertEqual(last(*begun, ack(0, 2), of(0)), [0, 3, 3, 3])
+
+    def test_told_more_and_waits(self):
+        begun = [start(10), flow(1, 3), ack(0, 1), wish(0, 8)]
+        self.assertEqual(last(*begun, of(0)), [1, 8, 8, 8])
+        self.assertEqual(last(*begun, ack(0, 2), of(0)), [0, 8, 8, 8])
+
+    def test_three_numbers_that_differ(self):
+        begun = [start(10), flow(1, 8), ack(0, 1), wish(0, 3), wish(0, 5)]
+        self.assertEqual(last(*begun, of(0)), [1, 3, 5, 8])
+        self.assertEqual(run(*begun, ack(0, 2), of(0), ack(0, 3), of(0))[5:], [[1], [1, 5, 5, 5], [1], [0, 5, 5, 5]])
+
+    def test_told_before_is_what_it_was_told_just_before(self):
+        begun = [start(10), flow(1, 9), ack(0, 1), wish(0, 5), ack(0, 2), wish(0, 1)]
+        self.assertEqual(last(*begun, of(0)), [1, 1, 1, 5])
+
+    def test_fair_share_that_is_not_told_yet(self):
+        begun = [start(10), flow(1, 6), flow(1, 200)]
+        self.assertEqual(run(*begun, of(0), of(1))[3:], [[1, 6, 5, 6], [1, 4, 5, 4]])
+        self.assertEqual(last(*begun, ack(1, 1), of(1)), [0, 4, 5, 4])
+        settled = [*begun, ack(1, 1), ack(0, 1), ack(0, 2), ack(1, 2)]
+        self.assertEqual(run(*settled, of(0), of(1))[7:], [[0, 5, 5, 5], [0, 5, 5, 5]])
+
+    def test_fair_share_over_several_lines(self):
+        answered = run(start(6, 4), flow(1, 200), flow(3, 200), flow(2, 200), of(0), of(1), of(2))
+        self.assertEqual([answer[2] for answer in answered[4:]], [4, 2, 2])
+
+    def test_asking_changes_nothing(self):
+        begun = [start(10), flow(1, 8), ack(0, 1), wish(0, 3), wish(0, 5)]
+        answered = run(*begun, of(0), of(0), of(1), of(0), say(0), ack(0, 2), say(0))
+        self.assertEqual(answered[5:], [[1, 3, 5, 8], [1, 3, 5, 8], [-2], [1, 3, 5, 8], told(0, 2, 3), [1], told(0, 3, 5)])
+
+    def test_refused_call_leaves_all(self):
+        begun = [start(10), flow(1, 8), ack(0, 1), wish(0, 3), wish(0, 5)]
+        wrong = heard(message(1, 0, 2, 3))
+        for refused in (start(), start(201), flow(0, 1), flow(1, 201), wish(0, 201), wish(1, 1), say(1), wrong, of(1)):
+            self.assertEqual(last(*begun, refused, of(0)), [1, 3, 5, 8])
+
+    def test_second_start(self):
+        self.assertEqual(run(start(9), flow(1, 9), start(5), of(0), flow(1, 9), of(0))[3:], [[-2], [0], [1, 5, 5, 5]])
 
 
 if __name__ == "__main__":

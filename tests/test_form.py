@@ -8,14 +8,17 @@ import unittest
 
 PACKAGE = pathlib.Path(__file__).resolve().parent.parent / "netshares"
 
+# What the program has no use for (errors, lambdas, f-strings, dicts, sets) isn't let in, so that what the rules
+# say of it (L2, L13, L16, L19, L24) needs no test of its own.
 STATEMENTS = (
-    ast.Assign, ast.AugAssign, ast.If, ast.While, ast.For, ast.Return, ast.Break, ast.Continue, ast.Pass, ast.Raise,
-    ast.Try, ast.Expr, ast.FunctionDef, ast.ClassDef, ast.ImportFrom,
+    ast.Assign, ast.AugAssign, ast.If, ast.While, ast.For, ast.Return, ast.Break, ast.Continue, ast.Pass, ast.Expr,
+    ast.FunctionDef, ast.ClassDef,
 )
 EXPRESSIONS = (
-    ast.Constant, ast.List, ast.Tuple, ast.Dict, ast.BinOp, ast.UnaryOp, ast.BoolOp, ast.Compare, ast.IfExp, ast.Call,
-    ast.Attribute, ast.Subscript, ast.Slice, ast.ListComp, ast.JoinedStr, ast.FormattedValue, ast.Name, ast.Lambda,
+    ast.Constant, ast.List, ast.Tuple, ast.BinOp, ast.UnaryOp, ast.BoolOp, ast.Compare, ast.IfExp, ast.Call,
+    ast.Attribute, ast.Subscript, ast.Slice, ast.ListComp, ast.Name,
 )
+CHANGES = ("append", "clear", "extend", "insert", "pop", "remove", "reverse", "setdefault", "update")
 OWN_NAMES = set(
     "len range enumerate zip min max sum abs sorted reversed int str bool list tuple dict set frozenset isinstance ord "
     "repr any all divmod Exception ValueError TypeError KeyError IndexError LookupError ZeroDivisionError "
@@ -173,6 +176,59 @@ class Form(unittest.TestCase):
         self.assertEqual((methods - DUNDER_METHODS | values) & (taken | UNUSED_NAMES), set())
         for where, node in self.each(ast.Attribute):
             self.assertIn(node.attr, OWN_METHODS | methods | values, where)
+
+    def test_called_where_they_stand(self):
+        """L18, L22, L25: classes, Python's own functions and methods are called, never kept or handed on."""
+        methods = {part.name for where, node in self.each(ast.ClassDef) for part in kin(node, ast.FunctionDef)}
+        for path, tree in self.trees.items():
+            called = [node.func for node in kin(tree, ast.Call)]
+            classes = {node.name for node in kin(tree, ast.ClassDef)}
+            for node in kin(tree, ast.Name):
+                if node.id in OWN_NAMES | classes:
+                    self.assertIn(node, called, (path.name, node.lineno))
+            for node in kin(tree, ast.Attribute):
+                if node.attr in set(OWN_METHODS) | methods:
+                    self.assertIn(node, called, (path.name, node.lineno))
+
+    def test_where_defs_and_classes_stand(self):
+        """L5, L15: none within a def, so that no name is read from around one."""
+        for where, node in self.each(ast.FunctionDef):
+            self.assertEqual(kin(node, ast.FunctionDef, ast.ClassDef), [node], where)
+        for where, node in self.each(ast.ClassDef):
+            self.assertEqual(kin(node, ast.ClassDef), [node], where)
+
+    def test_top_holds_nothing_that_changes(self):
+        """L15, L18: names of a file's top are whole numbers, and none is given another value within a def."""
+        for path, tree in self.trees.items():
+            top = {node.targets[0].id for node in tree.body if isinstance(node, ast.Assign)}
+            top |= {node.name for node in tree.body if isinstance(node, (ast.FunctionDef, ast.ClassDef))}
+            for node in tree.body:
+                if isinstance(node, ast.Assign):
+                    self.assertEqual(kin(node.value, ast.List, ast.Tuple), [], (path.name, node.lineno))
+            for node in kin(tree, ast.FunctionDef):
+                own = {part.id for part in kin(node, ast.Name) if isinstance(part.ctx, ast.Store)}
+                own |= {part.arg for part in kin(node, ast.arg)}
+                self.assertEqual(own & top, set(), (path.name, node.lineno))
+            for node in kin(tree, ast.Attribute, ast.Subscript):
+                if isinstance(node.ctx, ast.Store) and isinstance(node.value, ast.Name):
+                    self.assertNotIn(node.value.id, top, (path.name, node.lineno))
+
+    def test_what_is_walked_is_not_changed(self):
+        """L23."""
+        for where, node in self.each(ast.For):
+            walked = ast.unparse(node.iter)
+            for part in kin(node, ast.Attribute):
+                self.assertFalse(part.attr in CHANGES and ast.unparse(part.value) == walked, where)
+            for part in kin(node, ast.Subscript, ast.Name, ast.Attribute):
+                base = part.value if isinstance(part, ast.Subscript) else part
+                self.assertFalse(isinstance(part.ctx, ast.Store) and ast.unparse(base) == walked, where)
+
+    def test_texts(self):
+        """L27."""
+        for path, text in self.texts.items():
+            self.assertNotIn("\\", text, path.name)
+        for where, node in self.each(ast.Constant):
+            self.assertNotIn("%", str(node.value), where)
 
     def test_walked_at_once(self):
         """L22, L23, L24."""
